@@ -1,0 +1,1 @@
+"""Sortes: lots drawn before everybody, that nobody bends."""
