@@ -85,3 +85,18 @@ def with_posts(board, *put_in):
     posts = dict(board)
     posts.update(put_in)
     return tuple(sorted(posts.items()))
+
+
+def attack_from(stream, setup, many=40):
+    """A script of as many foes as there may be, with rules that are all about one foe as a dealer."""
+    _, n, t, m = setup
+    foes = tuple(sorted(stream.shuffled(parties(setup))[:t]))
+    dealer = foes[stream.below(t)]
+    about = {1: lambda at: at[1] == dealer, 2: lambda at: at[3] == dealer, 3: lambda at: at[3] == dealer,
+             4: lambda at: at[1] == dealer, 5: lambda at: at[3] == dealer, 6: lambda at: at[1] == dealer,
+             7: lambda at: at[3] == dealer, 8: lambda at: True}
+    rules = []
+    for step in (1, 1, 1) + tuple(1 + stream.below(8) for _ in range(stream.below(many - 2))):
+        own = [at for at in addresses(setup, step) if at[1] in foes and about[step](at)]
+        rules.append((own[stream.below(len(own))], change_from(stream, setup, step)))
+    return foes, tuple(rules)
