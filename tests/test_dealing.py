@@ -7,7 +7,7 @@ from sortes import dealing
 from sortes.dealing import board_of, play, seen
 from tests.plain import PlainPlay, addresses, parties, plain_table, table_value
 from tests.plays import NO_FOES, SMALL, TAPES, script_from, setup_from, tape_length, tapes_from
-from tests.samples import PRIMES, Stream
+from tests.samples import Stream
 
 # What the dealer 1 of TAPES sends, and the crossings of its rows. Everything else in such a play is 0.
 ROUND_1 = {(1, 1, 2, 0, 0): 5, (1, 1, 2, 0, 1): 8, (1, 1, 3, 0, 0): 7, (1, 1, 3, 0, 1): 0,

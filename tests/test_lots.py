@@ -7,20 +7,16 @@ import unittest
 from sortes import lots
 from sortes.errors import LimitError, SortesError
 from sortes.lots import is_lot, size, unrank
+from tests.great_lots import A, GREATEST, SEATS, TOO_GREAT
 from tests.plain_lots import CHARACTERS, NAMES, lot_from, plain_all, plain_size, small_lots
 from tests.samples import Stream
-from tests.values import DEEP, DEEP_BEHIND, STRANGE, WIDE, deep_tuple, neighbours, replaced
+from tests.values import DEEP, DEEP_BEHIND, STRANGE, WIDE, deep_tuple, neighbours
 
-A = ("sure", "a")
 # One lot of each kind.
 EACH_KIND = (A, ("among", ((2, A), (0, ("sure", "b")))), ("both", (A, A)), ("order", ("a", "b")),
              ("draw", 1, ("a", "b")), ("set", 1, ("a", "b")), ("again", 3, ("a", "b")),
              ("prizes", 1, (("a", 2), ("b", 3))), ("seats", 3, (("a", 2), ("b", 0))))
-# Sizes of exactly 10 ** 12, and of just a little more.
-TEN = ("again", 1, tuple("abcdefghij"))
-GREATEST = ("again", 12, tuple("abcdefghij"))
-GREAT = ("both", (("seats", 1, (("a", 100000),)), ("seats", 1, (("a", 100000),)), ("seats", 1, (("a", 101),))))
-TOO_GREAT = ("again", 12, tuple("abcdefghijk"))
+TEN = ("again", 1, NAMES[:10])
 
 
 def nested(deep, inside=A):
@@ -59,7 +55,8 @@ class KindsTest(LotCase):
 
     def test_words(self):
         for word in ("", "Sure", "sure ", "orders", "drawn", None, 0, (), ("sure",), DEEP):
-            self.check_inside(False, (word, "a"), (word, ("a",)), (word, (A,)), (word, ((1, A),)), (word, 1, ("a", "b")),
+            self.check_inside(False, (word, "a"), (word, ("a",)), (word, (A,)), (word, ((1, A),)),
+                              (word, 1, ("a", "b")),
                               (word, 1, (("a", 1),)))
 
     def test_a_word_with_what_belongs_to_another(self):
@@ -320,16 +317,18 @@ class LimitTest(unittest.TestCase):
                     unrank(e, k)
 
     def test_kinds(self):
-        self.assertTrue(is_lot(GREAT))
-        self.assertEqual(plain_size(GREAT), 1010000000000)
-        self.check(GREAT, TOO_GREAT, ("again", 12, NAMES), ("both", (GREATEST, ("order", ("a", "b")))),
-                   ("both", (("order", ("a", "b")), GREATEST)), ("both", (("order", NAMES),) * 12),
-                   ("among", ((2, GREATEST),)), ("among", ((1, GREATEST), (1, A))), ("among", ((1, A), (1, GREATEST))))
+        for e in TOO_GREAT:
+            self.assertTrue(is_lot(e))
+            self.assertGreater(plain_size(e), 10 ** 12)
+        self.assertEqual(plain_size(SEATS), 1010000000000)
+        self.check(*TOO_GREAT, ("both", (("order", ("a", "b")), GREATEST)), ("both", (("order", NAMES),) * 12),
+                   ("among", ((1, GREATEST), (1, A))))
 
     def test_one_above_the_limit(self):
         # 73 times 137 times 99990001 is 10 ** 12 + 1.
         self.check(("among", ((73, ("both", (("seats", 1, (("a", 137),)), ("seats", 0, (("a", 99990001),))))),)))
-        self.assertEqual(size(("both", (("seats", 1, (("a", 137),)), ("seats", 0, (("a", 99990001),))))), 137 * 99990001)
+        self.assertEqual(size(("both", (("seats", 1, (("a", 137),)), ("seats", 0, (("a", 99990001),))))),
+                         137 * 99990001)
 
     def test_common_multiples(self):
         # Each size is below 10 ** 6, the least common multiple of all of them is above 10 ** 12.
@@ -344,20 +343,20 @@ class LimitTest(unittest.TestCase):
         self.check(("prizes", 3, pairs), ("prizes", 4, pairs), ("prizes", 5, pairs))
 
     def test_lots_within(self):
-        for great in (GREAT, TOO_GREAT):
-            self.check(("both", (great,)), ("both", (A, great)), ("among", ((1, great),)), ("among", ((1, A), (0, great))),
-                       ("among", ((0, great), (1, A))), ("among", ((1, A), (0, ("both", (("among", ((1, A), (0, great))),))))))
+        for great in TOO_GREAT:
+            never = ("among", ((1, A), (0, great)))
+            self.check(("both", (great,)), ("both", (A, great)), ("among", ((1, great),)), never,
+                       ("among", ((0, great), (1, A))), ("among", ((1, A), (0, ("both", (never,))))))
 
     def test_does_not_compute_much_greater_numbers(self):
         # As a whole this would be a number with millions of digits.
-        e = TOO_GREAT
+        e = TOO_GREAT[0]
         for _ in range(5):
             e = ("both", (e,) * 12)
         self.check(e, ("again", 1000, NAMES))
 
     def test_kind_of_error(self):
         self.assertTrue(issubclass(LimitError, SortesError))
-        self.assertIs(is_lot(TOO_GREAT), True)
 
 
 class UnrankTest(unittest.TestCase):
@@ -388,16 +387,19 @@ class UnrankTest(unittest.TestCase):
         self.check([(("a",), ("a",))], ("both", (("both", (A,)), ("both", (A,)))))
 
     def test_order(self):
-        self.check([("b", "a", "c"), ("b", "c", "a"), ("a", "b", "c"), ("a", "c", "b"), ("c", "b", "a"), ("c", "a", "b")],
+        self.check([("b", "a", "c"), ("b", "c", "a"), ("a", "b", "c"), ("a", "c", "b"), ("c", "b", "a"),
+                    ("c", "a", "b")],
                    ("order", ("b", "a", "c")))
         self.check([("x",)], ("order", ("x",)))
 
     def test_draw(self):
-        self.check([("b", "a"), ("b", "c"), ("a", "b"), ("a", "c"), ("c", "b"), ("c", "a")], ("draw", 2, ("b", "a", "c")))
+        self.check([("b", "a"), ("b", "c"), ("a", "b"), ("a", "c"), ("c", "b"), ("c", "a")],
+                   ("draw", 2, ("b", "a", "c")))
         self.check([()], ("draw", 0, ("b", "a", "c")))
 
     def test_set(self):
-        self.check([("d", "a"), ("d", "c"), ("d", "b"), ("a", "c"), ("a", "b"), ("c", "b")], ("set", 2, ("d", "a", "c", "b")))
+        self.check([("d", "a"), ("d", "c"), ("d", "b"), ("a", "c"), ("a", "b"), ("c", "b")],
+                   ("set", 2, ("d", "a", "c", "b")))
         self.check([()], ("set", 0, ("a", "b")))
         self.check([("b", "a")], ("set", 2, ("b", "a")))
 
@@ -421,7 +423,8 @@ class UnrankTest(unittest.TestCase):
         one, two = (("a", 1), ("b", 0), ("c", 2)), (("a", 2), ("b", 0), ("c", 1))
         self.check([one] * 4 + [two], ("seats", 3, (("a", 2), ("b", 0), ("c", 3))))
         self.check([(("a", 0), ("b", 0))] * 3, ("seats", 0, (("a", 1), ("b", 2))))
-        self.check([(("a", 0), ("b", 1)), (("a", 0), ("b", 1)), (("a", 1), ("b", 0))], ("seats", 1, (("a", 1), ("b", 2))))
+        self.check([(("a", 0), ("b", 1)), (("a", 0), ("b", 1)), (("a", 1), ("b", 0))],
+                   ("seats", 1, (("a", 1), ("b", 2))))
         self.check([(("a", 1000), ("b", 0))], ("seats", 1000, (("a", 1), ("b", 0))))
         self.check([(("a", 0), ("b", 1000))], ("seats", 1000, (("a", 0), ("b", 1))))
 
@@ -469,7 +472,8 @@ class FormTest(unittest.TestCase):
     def test_beyond_the_limits(self):
         names = tuple("n" + str(at) for at in range(14))
         pairs = tuple((name, 101 + at) for at, name in enumerate(names))
-        for e in (("set", 7, names), ("draw", 3, names), ("draw", 3, ("a", "b")), ("set", 3, ("a", "b")), ("set", -1, names),
+        for e in (("set", 7, names), ("draw", 3, names), ("draw", 3, ("a", "b")), ("set", 3, ("a", "b")),
+                  ("set", -1, names),
                   ("draw", -1, names), ("again", -1, names), ("again", 13, ("a", "b")), ("prizes", 1, pairs[:7]),
                   ("prizes", 3, (("a", 1), ("b", 2))), ("prizes", -1, pairs[:2]), ("seats", 1001, pairs),
                   ("seats", -3, pairs), ("seats", 3, (("a", 0), ("b", 0))), ("among", ()), ("among", ((0, A), (0, A))),

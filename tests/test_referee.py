@@ -195,7 +195,8 @@ class ChangeTest(ScriptCase):
 
     def test_lengths(self):
         for change in ((), ("drop", 1), ("drop", None), ("drop", "drop"), ("is",), ("add",), ("copy",), ("is", 1, 1),
-                       ("add", 1, 1), ("copy", OWN[1], OWN[1]), ("copy",) + OWN[1], ("drop", ()), "drop", "is", 1, None):
+                       ("add", 1, 1), ("copy", OWN[1], OWN[1]), ("copy",) + OWN[1], ("drop", ()), "drop", "is", 1,
+                       None):
             self.check_rule(False, (OWN[3], change))
 
     def test_copy_of_any_sender_and_round(self):
@@ -205,7 +206,8 @@ class ChangeTest(ScriptCase):
                 self.check_rule(True, (OWN[step], ("copy", other)))
 
     def test_copy_of_what_is_no_address(self):
-        for other in STRANGE + ((0, 2, 3, 0, 1), (9, 2, 0, 1), (1, 2, 0, 0, 1), (8, 5, 1, 0), (8, 5, 0, 3), (8, 8, 0, 0),
+        for other in STRANGE + ((0, 2, 3, 0, 1), (9, 2, 0, 1), (1, 2, 0, 0, 1), (8, 5, 1, 0), (8, 5, 0, 3),
+                                (8, 8, 0, 0),
                                 (1, 3, 4, 0, 3), (5, 0, 0, 1), OWN[1] + (0,), (OWN[1],), (OWN[1], ("drop",))):
             self.check_rule(False, (OWN[3], ("copy", other)))
 
@@ -237,7 +239,8 @@ class DrawnTest(unittest.TestCase):
         self.check(False, setup, board, drawn + (None,))
         self.check(False, setup, board, (drawn,))
         for at in range(m):
-            for part in ((drawn[at] + 1) % p, drawn[at] + p, drawn[at] - p, None, str(drawn[at]), (drawn[at],), (), DEEP):
+            for part in ((drawn[at] + 1) % p, drawn[at] + p, drawn[at] - p, None, str(drawn[at]), (drawn[at],), (),
+                         DEEP):
                 self.check(False, setup, board, replaced(drawn, at, part))
         for told in STRANGE:
             if told != drawn:
@@ -247,7 +250,8 @@ class DrawnTest(unittest.TestCase):
     def test_known_answers(self):
         board = board_of(play((11, 4, 1, 2), ((1, 2, 3, 4, 5, 6), (), (), ()), NO_FOES))
         self.check(True, (11, 4, 1, 2), board, (1, 4))
-        for told in ((4, 1), (1,), (1, 4, 0), (1, 15), (12, 4), (), ("1", "4"), "14", "(1, 4)", (1, None), ((1, 4),), 14,
+        for told in ((4, 1), (1,), (1, 4, 0), (1, 15), (12, 4), (), ("1", "4"), "14", "(1, 4)", (1, None), ((1, 4),),
+                     14,
                      1, 0, None):
             self.check(False, (11, 4, 1, 2), board, told)
 

@@ -164,7 +164,8 @@ class TurnedTest(unittest.TestCase):
     def test_all_numbers_at_once(self):
         setup = (11, 4, 1, 2)
         tapes = tuple(Stream(i).numbers(11, 6) for i in range(4))
-        script = ((2,), (((1, 2, 1, 0, 0), ("add", 1)), ((5, 2, 0, 1), ("is", 1)), ((8, 2, 0, 1), ("copy", (8, 1, 0, 0)))))
+        script = ((2,), (((1, 2, 1, 0, 0), ("add", 1)), ((5, 2, 0, 1), ("is", 1)),
+                         ((8, 2, 0, 1), ("copy", (8, 1, 0, 0)))))
         drawn = set()
         for d in range(11):
             first = turned(setup, tapes, script, 0, d)
